@@ -1,0 +1,21 @@
+package tests
+
+import (
+	"testing"
+
+	"loop.example/muniment/impl"
+)
+
+// The example that README.md shows.
+func TestReadme(t *testing.T) {
+	d := impl.DiskNew()
+	for at, block := range impl.FramePut(1, 0, impl.WirePut([]string{"some", "words"})) {
+		d = impl.DiskWrite(d, 2+at, block)
+	}
+	d = impl.DiskCrash(impl.DiskFlush(d), 0)
+	text, count := impl.FrameGet(1, 0, d.Blocks[2:])
+	words, ok := impl.WireGet(text)
+	if count != 1 || !ok || !sameTexts(words, []string{"some", "words"}) {
+		t.Error(count, words, ok)
+	}
+}
