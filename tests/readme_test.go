@@ -18,4 +18,10 @@ func TestReadme(t *testing.T) {
 	if count != 1 || !ok || !sameTexts(words, []string{"some", "words"}) {
 		t.Error(count, words, ok)
 	}
+	list, ok := impl.MemPut(nil, impl.Entry{Key: "s.all", Seq: 3, Value: "here"})
+	table := impl.TableMake(list)
+	value, found, dead := impl.TableGet(table, "s.all", 9)
+	if !ok || value != "here" || !found || dead {
+		t.Error(table, value, found, dead)
+	}
 }
