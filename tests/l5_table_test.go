@@ -3,6 +3,7 @@ package tests
 import (
 	"crypto/sha256"
 	"fmt"
+	"maps"
 	"math"
 	"strings"
 	"testing"
@@ -83,84 +84,99 @@ func tableLists() [][]impl.Entry {
 	return lists
 }
 
+// noTableHeads are texts that are no tables by their first line.
+func noTableHeads() map[string]string {
+	const bits = "0000000000000000"
+	one, two := plainBits("ab"), plainBits("ab", "abc")
+	many := strings.Fields(plainTable(manyEntries(99)))[2]
+	return map[string]string{
+		"the empty text":            "",
+		"no newline":                "table 0 " + bits,
+		"a newline alone":           "\n",
+		"two newlines":              "table 0 " + bits + "\n\n",
+		"another word":              "Table 0 " + bits + "\n",
+		"no count":                  "table  " + bits + "\n",
+		"a count with a nought":     "table 00 " + bits + "\n",
+		"a count with a sign":       "table +0 " + bits + "\n",
+		"a count below":             "table -1 " + bits + "\n",
+		"a count too high":          "table 1 " + bits + "\n",
+		"a count far too high":      "table 99999999 " + bits + "\n",
+		"a count with many figures": "table 99999999999999999999 " + bits + "\n",
+		"a count too low":           "table 0 " + one + "\n0 ab 1 v\n",
+		"bits of no key":            "table 0 " + one + "\n",
+		"one bit too many":          "table 0 0000000000000001\n",
+		"bits too short":            "table 0 000000000000000\n",
+		"bits too long":             "table 0 00000000000000000\n",
+		"no bits":                   "table 0 \n",
+		"bits in other letters":     strings.Replace(plainTable(manyEntries(99)), many, strings.ToUpper(many), 1),
+		"bits of another key":       "table 1 " + plainBits("abc") + "\n0 ab 1 v\n",
+		"bits of one key of two":    "table 2 " + one + "\n0 ab 1 v\n2 c 1 v\n",
+		"bits of more keys":         "table 1 " + two + "\n0 ab 1 v\n",
+		"all bits":                  "table 1 ffffffffffffffff\n0 ab 1 v\n",
+		"a blank behind the bits":   "table 1 " + one + " \n0 ab 1 v\n",
+		"a long count":              "table 1" + strings.Repeat("0", 100000) + " " + bits + "\n",
+	}
+}
+
+// noTableLines are texts that are no tables by the lines of their entries.
+func noTableLines() map[string]string {
+	one, two := plainBits("ab"), plainBits("ab", "abc")
+	return map[string]string{
+		"no end of the last line":      "table 1 " + one + "\n0 ab 1 v",
+		"a line with one word":         "table 1 " + one + "\n0\n",
+		"a line with two words":        "table 1 " + one + "\n0 ab\n",
+		"two blanks ahead of a key":    "table 1 " + one + "\n0  ab 1 v\n",
+		"two blanks ahead of a moment": "table 1 " + one + "\n0 ab  1 v\n",
+		"an empty line":                "table 1 " + one + "\n\n0 ab 1 v\n",
+		"a blank ahead":                "table 1 " + one + "\n 0 ab 1 v\n",
+		"a return":                     "table 1 " + one + "\r\n0 ab 1 v\r\n",
+		"no alike":                     "table 1 " + one + "\nab 1 v\n",
+		"alike with a nought":          "table 1 " + one + "\n00 ab 1 v\n",
+		"alike with a sign":            "table 1 " + one + "\n+0 ab 1 v\n",
+		"alike below":                  "table 1 " + one + "\n-1 ab 1 v\n",
+		"alike where nothing is ahead": "table 1 " + one + "\n1 b 1 v\n",
+		"more alike than there is":     "table 2 " + two + "\n0 ab 1 v\n3 c 1 v\n",
+		"less alike than there is":     "table 2 " + two + "\n0 ab 1 v\n1 bc 1 v\n",
+		"nothing alike":                "table 2 " + two + "\n0 ab 1 v\n0 abc 1 v\n",
+		"many alike":                   "table 2 " + two + "\n0 ab 1 v\n99999999999999999999 c 1 v\n",
+		"seq 0":                        "table 1 " + one + "\n0 ab 0 v\n",
+		"no seq":                       "table 1 " + one + "\n0 ab  v\n",
+		"seq with a nought":            "table 1 " + one + "\n0 ab 01 v\n",
+		"seq with a sign":              "table 1 " + one + "\n0 ab +1 v\n",
+		"seq with many figures":        "table 1 " + one + "\n0 ab 100000000 v\n",
+		"a long value":                 "table 1 " + one + "\n0 ab 1 " + strings.Repeat("v", 81) + "\n",
+		"a value below":                "table 1 " + one + "\n0 ab 1 \t\n",
+		"a value above":                "table 1 " + one + "\n0 ab 1 \x7f\n",
+		"an empty key":                 "table 1 " + plainBits("") + "\n0  1 v\n",
+		"a long key":                   "table 1 " + plainBits(strings.Repeat("k", 25)) + "\n0 " + strings.Repeat("k", 25) + " 1 v\n",
+		"a key with a colon":           "table 1 " + plainBits("a:") + "\n0 a: 1 v\n",
+		"a key with a newline":         "table 1 " + plainBits("a\nb") + "\n0 a\nb 1 v\n",
+		"keys descend":                 plainTable([]impl.Entry{{Key: "b", Seq: 1}, {Key: "a", Seq: 1}}),
+		"moments ascend":               plainTable([]impl.Entry{{Key: "a", Seq: 1}, {Key: "a", Seq: 2}}),
+		"one entry twice":              plainTable([]impl.Entry{{Key: "a", Seq: 1}, {Key: "a", Seq: 1}}),
+		"keys that grow":               "table 9 " + one + "\n" + strings.Repeat("0 aaaaaaaa 1 v\n9 aaaaaaaa 1 v\n", 30000),
+	}
+}
+
 // noTables are texts that are no tables, but look like some.
 func noTables() map[string]string {
-	const bits = "0000000000000000"
-	one := plainBits("ab")
-	two := plainBits("ab", "abc")
-	many := strings.Fields(plainTable(manyEntries(99)))[2]
+	some := plainTable(someEntries())
 	texts := map[string]string{
-		"the empty text":                "",
-		"no newline":                    "table 0 " + bits,
-		"a newline alone":               "\n",
-		"two newlines":                  "table 0 " + bits + "\n\n",
-		"another word":                  "Table 0 " + bits + "\n",
-		"no count":                      "table  " + bits + "\n",
-		"a count with a nought":         "table 00 " + bits + "\n",
-		"a count with a sign":           "table +0 " + bits + "\n",
-		"a count below":                 "table -1 " + bits + "\n",
-		"a count too high":              "table 1 " + bits + "\n",
-		"a count far too high":          "table 99999999 " + bits + "\n",
-		"a count with many figures":     "table 99999999999999999999 " + bits + "\n",
-		"a count too low":               "table 0 " + one + "\n0 ab 1 v\n",
-		"bits of no key":                "table 0 " + one + "\n",
-		"one bit too many":              "table 0 0000000000000001\n",
-		"bits too short":                "table 0 000000000000000\n",
-		"bits too long":                 "table 0 00000000000000000\n",
-		"no bits":                       "table 0 \n",
-		"bits in other letters":         strings.Replace(plainTable(manyEntries(99)), many, strings.ToUpper(many), 1),
-		"bits of another key":           "table 1 " + plainBits("abc") + "\n0 ab 1 v\n",
-		"bits of one key of two":        "table 2 " + one + "\n0 ab 1 v\n2 c 1 v\n",
-		"bits of more keys":             "table 1 " + two + "\n0 ab 1 v\n",
-		"all bits":                      "table 1 ffffffffffffffff\n0 ab 1 v\n",
-		"a blank behind the bits":       "table 1 " + one + " \n0 ab 1 v\n",
-		"no end of the last line":       "table 1 " + one + "\n0 ab 1 v",
-		"a line with one word":          "table 1 " + one + "\n0\n",
-		"a line with two words":         "table 1 " + one + "\n0 ab\n",
-		"two blanks ahead of a key":     "table 1 " + one + "\n0  ab 1 v\n",
-		"two blanks ahead of a moment":  "table 1 " + one + "\n0 ab  1 v\n",
-		"an empty line":                 "table 1 " + one + "\n\n0 ab 1 v\n",
-		"a blank ahead":                 "table 1 " + one + "\n 0 ab 1 v\n",
-		"a return":                      "table 1 " + one + "\r\n0 ab 1 v\r\n",
-		"no alike":                      "table 1 " + one + "\nab 1 v\n",
-		"alike with a nought":           "table 1 " + one + "\n00 ab 1 v\n",
-		"alike with a sign":             "table 1 " + one + "\n+0 ab 1 v\n",
-		"alike below":                   "table 1 " + one + "\n-1 ab 1 v\n",
-		"alike where nothing is ahead":  "table 1 " + one + "\n1 b 1 v\n",
-		"more alike than there is":      "table 2 " + two + "\n0 ab 1 v\n3 c 1 v\n",
-		"less alike than there is":      "table 2 " + two + "\n0 ab 1 v\n1 bc 1 v\n",
-		"nothing alike":                 "table 2 " + two + "\n0 ab 1 v\n0 abc 1 v\n",
-		"many alike":                    "table 2 " + two + "\n0 ab 1 v\n99999999999999999999 c 1 v\n",
-		"seq 0":                         "table 1 " + one + "\n0 ab 0 v\n",
-		"no seq":                        "table 1 " + one + "\n0 ab  v\n",
-		"seq with a nought":             "table 1 " + one + "\n0 ab 01 v\n",
-		"seq with a sign":               "table 1 " + one + "\n0 ab +1 v\n",
-		"seq with many figures":         "table 1 " + one + "\n0 ab 100000000 v\n",
-		"a long value":                  "table 1 " + one + "\n0 ab 1 " + strings.Repeat("v", 81) + "\n",
-		"a value below":                 "table 1 " + one + "\n0 ab 1 \t\n",
-		"a value above":                 "table 1 " + one + "\n0 ab 1 \x7f\n",
-		"an empty key":                  "table 1 " + plainBits("") + "\n0  1 v\n",
-		"a long key":                    "table 1 " + plainBits(strings.Repeat("k", 25)) + "\n0 " + strings.Repeat("k", 25) + " 1 v\n",
-		"a key with a colon":            "table 1 " + plainBits("a:") + "\n0 a: 1 v\n",
-		"a key with a newline":          "table 1 " + plainBits("a\nb") + "\n0 a\nb 1 v\n",
-		"keys descend":                  plainTable([]impl.Entry{{Key: "b", Seq: 1}, {Key: "a", Seq: 1}}),
-		"moments ascend":                plainTable([]impl.Entry{{Key: "a", Seq: 1}, {Key: "a", Seq: 2}}),
-		"one entry twice":               plainTable([]impl.Entry{{Key: "a", Seq: 1}, {Key: "a", Seq: 1}}),
 		"too many entries":              plainTable(manyEntries(241)),
 		"a byte too many":               plainTable(sizedEntries(7001)),
-		"twice":                         plainTable(someEntries()) + plainTable(someEntries()),
+		"twice":                         some + some,
 		"many newlines":                 strings.Repeat("\n", 100000),
-		"a long count":                  "table 1" + strings.Repeat("0", 100000) + " " + bits + "\n",
-		"keys that grow":                "table 9 " + bits + "\n" + strings.Repeat("0 aaaaaaaa 1 v\n9 aaaaaaaa 1 v\n", 30000),
 		"alike at a step":               strings.Replace(plainTable(manyEntries(6)), "\n0 k1001 29", "\n5  29", 1),
-		"all bytes but the first":       plainTable(someEntries())[1:],
-		"something ahead":               " " + plainTable(someEntries()),
-		"something behind":              plainTable(someEntries()) + "x",
-		"an entry behind":               plainTable(someEntries()) + "0 z 1 v\n",
-		"without the last byte":         strings.TrimSuffix(plainTable(someEntries()), "\n"),
-		"without the last line":         plainTable(someEntries())[:len(plainTable(someEntries()))-len("2  1 first\n")],
-		"entries without the first row": strings.SplitN(plainTable(someEntries()), "\n", 2)[1],
+		"all bytes but the first":       some[1:],
+		"something ahead":               " " + some,
+		"something behind":              some + "x",
+		"an entry behind":               some + "0 z 1 v\n",
+		"without the last byte":         strings.TrimSuffix(some, "\n"),
+		"without the last line":         some[:len(some)-len("2  1 first\n")],
+		"entries without the first row": strings.SplitN(some, "\n", 2)[1],
 	}
+	maps.Copy(texts, noTableHeads())
+	maps.Copy(texts, noTableLines())
 	return texts
 }
 
