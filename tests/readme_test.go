@@ -24,4 +24,22 @@ func TestReadme(t *testing.T) {
 	if !ok || value != "here" || !found || dead {
 		t.Error(table, value, found, dead)
 	}
+	s, code := impl.StoreBatch(impl.StoreNew(), []impl.Op{{Key: "a", Value: "one"}, {Key: "b", Value: "two"}})
+	if code != impl.StoreDone {
+		t.Error(code)
+	}
+	s, code = impl.StoreBatch(s, []impl.Op{{Key: "a", Dead: true}})
+	if code != impl.StoreDone {
+		t.Error(code)
+	}
+	s, code = impl.StoreFlush(s)
+	value, found = impl.StoreGet(s, "a", 1)
+	if code != impl.StoreDone || value != "one" || !found {
+		t.Error(code, value, found)
+	}
+	down, code := impl.StoreBatch(impl.StoreFall(s, 1), []impl.Op{{Key: "b", Dead: true}})
+	again, ok := impl.StoreOpen(impl.DiskCrash(down.Disk, 0))
+	if code != impl.StoreDown || !ok || !sameStore(again, s) {
+		t.Error(code, again)
+	}
 }
