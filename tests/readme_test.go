@@ -1,6 +1,7 @@
 package tests
 
 import (
+	"fmt"
 	"testing"
 
 	"loop.example/muniment/impl"
@@ -41,5 +42,23 @@ func TestReadme(t *testing.T) {
 	again, ok := impl.StoreOpen(impl.DiskCrash(down.Disk, 0))
 	if code != impl.StoreDown || !ok || !sameStore(again, s) {
 		t.Error(code, again)
+	}
+	m, answer := impl.ModelNew(), ""
+	for place, line := range []string{"space a all 30", "put a x first", "mark a x k", "drop a x"} {
+		r, ok := impl.ReqRead(line)
+		m, answer = impl.ModelDo(m, r)
+		if !ok || answer != fmt.Sprint("ok ", place+1) {
+			t.Error(line, answer)
+		}
+	}
+	board := impl.ModelBoard(m)
+	pasts, ok := impl.ModelWatch(m, "a", 2)
+	if board != "count 4\na in all 30 here 1 uses 6\n  x 1 4 going k first\nall in - -1 here 0 uses 6\n" || !ok || len(pasts) != 2 {
+		t.Error(board, pasts)
+	}
+	ops := impl.ModelDiff(impl.ModelNew(), m)
+	x, ok := impl.ModelLoad(impl.ModelPairs(m))
+	if len(ops) != 9 || !ok || !sameModel(x, m) {
+		t.Error(ops, x)
 	}
 }
