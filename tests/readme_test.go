@@ -62,3 +62,40 @@ func TestReadme(t *testing.T) {
 		t.Error(ops, x)
 	}
 }
+
+// What README.md shows of servers.
+func TestReadmeServers(t *testing.T) {
+	server, answer := impl.ServerDo(impl.ServerNew(), "space a all 30")
+	if answer != "ok 1" {
+		t.Error(answer)
+	}
+	server, answer = impl.ServerDo(server, "put a x first")
+	if answer != "ok 2" {
+		t.Error(answer)
+	}
+	server, code := impl.ServerTend(server, false)
+	if code != impl.StoreDone {
+		t.Error(code)
+	}
+	server, ok := impl.ServerOpen(impl.ServerCut(server, "drop a x", 1, 0))
+	if _, answer := impl.ServerDo(server, "list a"); !ok || answer != "list x uses 6" {
+		t.Error(answer)
+	}
+	server, answers := impl.ServerPlay([]impl.Event{
+		{Kind: impl.PlayAsk, Text: "space a all 30"},
+		{Kind: impl.PlayFlush},
+		{Kind: impl.PlayCrash, Text: "put a x first", Left: 1, Mask: 1},
+		{Kind: impl.PlayAsk, Text: "list a"},
+	})
+	// The request is one block of the log, and that stayed.
+	if !sameTexts(answers, []string{"ok 1", "list x uses 6"}) || !impl.ServerOk(server) {
+		t.Error(answers)
+	}
+	told := impl.ServerSession([]string{"space a all 30", "flush", "crash 1 1 put a x first", "list a"})
+	if told != "ok 1\nlist x uses 6\n"+impl.ModelBoard(server.Model) {
+		t.Error(told)
+	}
+	if told := impl.ServerSession([]string{"crash 1 0", "crash 1 0 "}); told != "no bad\ncount 0\nall in - -1 here 0 uses 0\n" {
+		t.Error(told)
+	}
+}
